@@ -1,0 +1,1 @@
+"""Selecting points on a line with a minimum spacing."""

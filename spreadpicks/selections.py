@@ -1,0 +1,115 @@
+"""Selections of weighted points on a line that keep a minimum spacing."""
+
+LEAST_SPACING = 1
+MOST_SPACING = 999
+MOST_POINTS = 12
+MOST_POSITION = 999
+MOST_WEIGHT = 99
+
+
+def out_of_limits():
+    """The answer when an argument is outside its limits."""
+    return [-22]
+
+
+def positions_of(points):
+    """The position of each point."""
+    return points[0::2]
+
+
+def weights_of(points):
+    """The weight of each point."""
+    return points[1::2]
+
+
+def are_between(numbers, least, most):
+    """Whether every number is at least `least` and at most `most`."""
+    return all([least <= number <= most for number in numbers])
+
+
+def are_increasing(numbers):
+    """Whether every number is greater than the one before it."""
+    return all([numbers[i - 1] < numbers[i] for i in range(1, len(numbers))])
+
+
+def are_points(points):
+    """Whether the list is a list of points within its limits."""
+    if len(points) % 2 != 0 or len(points) > 2 * MOST_POINTS:
+        return False
+    positions = positions_of(points)
+    return (
+        are_between(positions, 0, MOST_POSITION)
+        and are_increasing(positions)
+        and are_between(weights_of(points), 0, MOST_WEIGHT)
+    )
+
+
+def are_within_limits(spacing, points):
+    """Whether the arguments that every operation has are within their limits."""
+    return LEAST_SPACING <= spacing <= MOST_SPACING and are_points(points)
+
+
+def in_conflict(spacing, position, other):
+    """Whether two different points at these positions conflict."""
+    return abs(position - other) < spacing
+
+
+def count_of_free_before(spacing, positions, index):
+    """How many of the points ahead of this one don't conflict with it."""
+    # Positions increase, so these are always the first ones of the list.
+    count = index
+    while count > 0 and in_conflict(spacing, positions[count - 1], positions[index]):
+        count = count - 1
+    return count
+
+
+def best_weight_and_mask(spacing, positions, weights):
+    """The weight and the mask of the best selection of these points."""
+    # best_weights[k] and best_masks[k] tell of the first k points alone.
+    best_weights = [0]
+    best_masks = [0]
+    for i in range(len(positions)):
+        free = count_of_free_before(spacing, positions, i)
+        weight = best_weights[free] + weights[i]
+        # With equal weights, the set without point i has the smaller mask.
+        if weight > best_weights[i]:
+            best_weights.append(weight)
+            best_masks.append(best_masks[free] | (1 << i))
+        else:
+            best_weights.append(best_weights[i])
+            best_masks.append(best_masks[i])
+    return [best_weights[-1], best_masks[-1]]
+
+
+def members_of(mask, count):
+    """The indexes of the points in the set, out of `count` points."""
+    return [i for i in range(count) if (mask >> i) & 1 == 1]
+
+
+def is_valid(spacing, positions):
+    """Whether no two of these increasing positions conflict."""
+    # Neighbours are the closest pairs: where none of them conflict, none do.
+    for i in range(1, len(positions)):
+        if in_conflict(spacing, positions[i - 1], positions[i]):
+            return False
+    return True
+
+
+def best_selection(spacing, points):
+    """The weight of the best selection and its mask, or an error code alone."""
+    if not are_within_limits(spacing, points):
+        return out_of_limits()
+    return best_weight_and_mask(spacing, positions_of(points), weights_of(points))
+
+
+def evaluate_selection(spacing, mask, points):
+    """1 if the set is valid or else 0, and its weight, or an error code alone."""
+    if not are_within_limits(spacing, points):
+        return out_of_limits()
+    positions = positions_of(points)
+    weights = weights_of(points)
+    if mask >> len(positions) != 0:
+        return out_of_limits()
+    members = members_of(mask, len(positions))
+    valid = is_valid(spacing, [positions[i] for i in members])
+    return [1 if valid else 0, sum([weights[i] for i in members])]

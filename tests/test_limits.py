@@ -1,0 +1,97 @@
+"""The limits of `spacing` and `points`, which every operation checks first."""
+
+import unittest
+
+from helper import REFUSED, AnswerCase
+from spreadpicks.selections import best_selection, evaluate_selection
+
+
+def evaluate_empty(spacing, points):
+    return evaluate_selection(spacing, 0, points)
+
+
+def evaluate_unknown(spacing, points):
+    return evaluate_selection(spacing, 4294967295, points)
+
+
+def spread(count):
+    """A list of `count` points of weight 1, ten apart."""
+    points = []
+    for i in range(count):
+        points += [10 * i, 1]
+    return points
+
+
+class Limits(AnswerCase):
+    def refused(self, spacing, points):
+        for operation in (best_selection, evaluate_empty, evaluate_unknown):
+            with self.subTest(operation=operation.__name__, spacing=spacing, points=points):
+                self.assert_answer(operation(spacing, points), REFUSED)
+
+    def taken(self, spacing, points, best):
+        with self.subTest(spacing=spacing, points=points):
+            self.assert_answer(best_selection(spacing, points), best)
+            self.assert_answer(evaluate_empty(spacing, points), [1, 0])
+            self.assert_answer(evaluate_unknown(spacing, points), REFUSED)
+
+    def test_spacing(self):
+        for spacing in (0, 1000, 1001, 4294967295):
+            self.refused(spacing, [0, 4, 999, 5])
+            self.refused(spacing, [])
+        for spacing in (1, 2, 998, 999):
+            self.taken(spacing, [0, 4, 999, 5], [9, 3])
+            self.taken(spacing, [], [0, 0])
+
+    def test_positions(self):
+        self.taken(1, [0, 4], [4, 1])
+        self.taken(1, [999, 4], [4, 1])
+        self.taken(1, [998, 4, 999, 5], [9, 3])
+        self.refused(1, [1000, 4])
+        self.refused(1, [4294967295, 4])
+        self.refused(1, [0, 4, 1000, 5])
+        self.refused(1, [0, 4, 500, 5, 4294967295, 6])
+
+    def test_weights(self):
+        self.taken(1, [5, 0], [0, 0])
+        self.taken(1, [5, 99], [99, 1])
+        self.taken(1, [5, 99, 6, 99], [198, 3])
+        self.refused(1, [5, 100])
+        self.refused(1, [5, 4294967295])
+        self.refused(1, [0, 100, 1, 4])
+        self.refused(1, [0, 4, 1, 100])
+        self.refused(1, [0, 4, 1, 100, 2, 4])
+
+    def test_positions_are_strictly_increasing(self):
+        self.taken(1, [4, 1, 5, 1], [2, 3])
+        self.refused(1, [4, 1, 4, 1])
+        self.refused(1, [5, 1, 4, 1])
+        self.refused(1, [0, 1, 0, 1])
+        self.refused(1, [0, 1, 5, 1, 5, 1])
+        self.refused(1, [0, 1, 5, 1, 3, 1])
+        self.refused(1, [3, 1, 1, 1, 5, 1])
+        self.refused(1, [0, 1, 9, 1, 3, 1, 10, 1])
+
+    def test_two_integers_for_each_point(self):
+        self.refused(1, [0])
+        self.refused(1, [0, 4, 1])
+        self.refused(1, [0, 4, 1, 5, 2])
+        self.refused(1, spread(12) + [500])
+        self.refused(1, spread(11) + [500])
+
+    def test_number_of_points(self):
+        self.taken(10, spread(11), [11, 2047])
+        self.taken(10, spread(12), [12, 4095])
+        self.refused(10, spread(13))
+        self.refused(10, spread(13) + [500])
+        self.assertEqual(len(spread(13) + [500]), 27)
+        self.refused(10, [0] * 27)
+        self.refused(10, list(range(27)))
+
+    def test_wrong_spacing_and_wrong_points(self):
+        self.refused(0, [0, 100])
+        self.refused(1000, [0])
+        self.refused(4294967295, [5, 1, 4, 1])
+
+
+if __name__ == "__main__":
+    unittest.main()
