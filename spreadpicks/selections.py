@@ -5,6 +5,7 @@ MOST_SPACING = 999
 MOST_POINTS = 12
 MOST_POSITION = 999
 MOST_WEIGHT = 99
+MOST_PRICE = 999
 
 
 def out_of_limits():
@@ -47,6 +48,11 @@ def are_points(points):
 def are_within_limits(spacing, points):
     """Whether the arguments that every operation has are within their limits."""
     return LEAST_SPACING <= spacing <= MOST_SPACING and are_points(points)
+
+
+def are_prices(numbers, count):
+    """Whether the list is a list of prices within their limits for `count` points."""
+    return len(numbers) == count and are_between(numbers, 0, MOST_PRICE)
 
 
 def in_conflict(spacing, position, other):
@@ -95,6 +101,48 @@ def is_valid(spacing, positions):
     return True
 
 
+def price_ahead(spacing, positions, point_prices, index):
+    """The sum of the prices of all earlier points that conflict with this one."""
+    free = count_of_free_before(spacing, positions, index)
+    return sum(point_prices[free:index])
+
+
+def computed_prices(spacing, positions, weights):
+    """The computed price of each point."""
+    computed = []
+    for i in range(len(positions)):
+        ahead = price_ahead(spacing, positions, computed, i)
+        computed.append(max(0, weights[i] - ahead))
+    return computed
+
+
+def mask_of_taken(spacing, positions, order):
+    """The mask when, in this order, each point without conflict with one taken before is taken."""
+    mask = 0
+    taken = []
+    for i in order:
+        if not any([in_conflict(spacing, positions[i], other) for other in taken]):
+            taken.append(positions[i])
+            mask = mask | (1 << i)
+    return mask
+
+
+def price_selection(spacing, positions, computed):
+    """The mask of the price selection."""
+    last = len(positions) - 1
+    order = [i for i in range(last, -1, -1) if computed[i] > 0]
+    return mask_of_taken(spacing, positions, order)
+
+
+def are_sufficient(spacing, positions, weights, point_prices):
+    """Whether every weight is paid for by its own price and the earlier ones in conflict."""
+    for i in range(len(positions)):
+        ahead = price_ahead(spacing, positions, point_prices, i)
+        if weights[i] > point_prices[i] + ahead:
+            return False
+    return True
+
+
 def best_selection(spacing, points):
     """The weight of the best selection and its mask, or an error code alone."""
     if not are_within_limits(spacing, points):
@@ -113,3 +161,23 @@ def evaluate_selection(spacing, mask, points):
     members = members_of(mask, len(positions))
     valid = is_valid(spacing, [positions[i] for i in members])
     return [1 if valid else 0, sum([weights[i] for i in members])]
+
+
+def prices(spacing, points):
+    """The computed prices' sum, the price selection and each price, or an error code alone."""
+    if not are_within_limits(spacing, points):
+        return out_of_limits()
+    positions = positions_of(points)
+    computed = computed_prices(spacing, positions, weights_of(points))
+    return [sum(computed), price_selection(spacing, positions, computed)] + computed
+
+
+def check_prices(spacing, points, prices):
+    """1 if the prices are sufficient or else 0, and their sum, or an error code alone."""
+    if not are_within_limits(spacing, points):
+        return out_of_limits()
+    positions = positions_of(points)
+    if not are_prices(prices, len(positions)):
+        return out_of_limits()
+    sufficient = are_sufficient(spacing, positions, weights_of(points), prices)
+    return [1 if sufficient else 0, sum(prices)]

@@ -5,6 +5,10 @@ import unittest
 
 REFUSED = [-22]
 
+# The points of the document's examples, and as many points as there may be.
+THREE = [0, 4, 2, 5, 4, 4]
+TWELVE = [0, 1, 5, 2, 10, 3, 15, 4, 20, 5, 25, 6, 30, 7, 35, 8, 40, 9, 45, 10, 50, 11, 55, 12]
+
 
 class AnswerCase(unittest.TestCase):
     def assert_answer(self, answer, expected):
@@ -31,9 +35,13 @@ def members(mask, points):
     return [i for i in range(len(points) // 2) if mask & 2**i]
 
 
+def plain_conflict(spacing, i, j, points):
+    return i != j and abs(points[2 * i] - points[2 * j]) < spacing
+
+
 def plain_is_valid(spacing, mask, points):
     for i, j in itertools.combinations(members(mask, points), 2):
-        if abs(points[2 * i] - points[2 * j]) < spacing:
+        if plain_conflict(spacing, i, j, points):
             return False
     return True
 
@@ -48,6 +56,18 @@ def plain_best(spacing, points):
         if plain_weight(mask, points) > found[0] and plain_is_valid(spacing, mask, points):
             found = [plain_weight(mask, points), mask]
     return found
+
+
+def plain_prices_ahead(spacing, index, points, prices):
+    return sum(prices[j] for j in range(index) if plain_conflict(spacing, j, index, points))
+
+
+def plain_computed_prices(spacing, points):
+    computed = []
+    for i in range(len(points) // 2):
+        ahead = plain_prices_ahead(spacing, i, points, computed)
+        computed.append(max(points[2 * i + 1] - ahead, 0))
+    return computed
 
 
 def small_lists(end, weights):

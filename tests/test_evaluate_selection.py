@@ -1,10 +1,15 @@
 import unittest
 
-from helper import REFUSED, AnswerCase, plain_is_valid, plain_weight, small_lists
+from helper import (
+    REFUSED,
+    THREE,
+    TWELVE,
+    AnswerCase,
+    plain_is_valid,
+    plain_weight,
+    small_lists,
+)
 from spreadpicks.selections import evaluate_selection
-
-THREE = [0, 4, 2, 5, 4, 4]
-TWELVE = [0, 1, 5, 2, 10, 3, 15, 4, 20, 5, 25, 6, 30, 7, 35, 8, 40, 9, 45, 10, 50, 11, 55, 12]
 
 
 class EvaluateSelection(AnswerCase):

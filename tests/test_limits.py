@@ -3,7 +3,7 @@
 import unittest
 
 from helper import REFUSED, AnswerCase
-from spreadpicks.selections import best_selection, evaluate_selection
+from spreadpicks.selections import best_selection, check_prices, evaluate_selection, prices
 
 
 def evaluate_empty(spacing, points):
@@ -12,6 +12,29 @@ def evaluate_empty(spacing, points):
 
 def evaluate_unknown(spacing, points):
     return evaluate_selection(spacing, 4294967295, points)
+
+
+def check_most(spacing, points):
+    return check_prices(spacing, points, [999] * (len(points) // 2))
+
+
+def check_one_too_many(spacing, points):
+    return check_prices(spacing, points, [999] * (len(points) // 2 + 1))
+
+
+def check_too_great(spacing, points):
+    return check_prices(spacing, points, [4294967295] * max(1, len(points) // 2))
+
+
+OPERATIONS = (
+    best_selection,
+    evaluate_empty,
+    evaluate_unknown,
+    prices,
+    check_most,
+    check_one_too_many,
+    check_too_great,
+)
 
 
 def spread(count):
@@ -24,15 +47,20 @@ def spread(count):
 
 class Limits(AnswerCase):
     def refused(self, spacing, points):
-        for operation in (best_selection, evaluate_empty, evaluate_unknown):
+        for operation in OPERATIONS:
             with self.subTest(operation=operation.__name__, spacing=spacing, points=points):
                 self.assert_answer(operation(spacing, points), REFUSED)
 
     def taken(self, spacing, points, best):
+        """Within the limits, and without a conflict."""
         with self.subTest(spacing=spacing, points=points):
             self.assert_answer(best_selection(spacing, points), best)
             self.assert_answer(evaluate_empty(spacing, points), [1, 0])
             self.assert_answer(evaluate_unknown(spacing, points), REFUSED)
+            self.assert_answer(prices(spacing, points), best + points[1::2])
+            self.assert_answer(check_most(spacing, points), [1, 999 * (len(points) // 2)])
+            self.assert_answer(check_one_too_many(spacing, points), REFUSED)
+            self.assert_answer(check_too_great(spacing, points), REFUSED)
 
     def test_spacing(self):
         for spacing in (0, 1000, 1001, 4294967295):
