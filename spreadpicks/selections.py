@@ -92,6 +92,11 @@ def members_of(mask, count):
     return [i for i in range(count) if (mask >> i) & 1 == 1]
 
 
+def weight_of(members, weights):
+    """The sum of the weights of these points."""
+    return sum([weights[i] for i in members])
+
+
 def is_valid(spacing, positions):
     """Whether no two of these increasing positions conflict."""
     # Neighbours are the closest pairs: where none of them conflict, none do.
@@ -143,6 +148,11 @@ def are_sufficient(spacing, positions, weights, point_prices):
     return True
 
 
+def by_decreasing_weight(weights):
+    """The indexes of the points by decreasing weight, equal weights by index."""
+    return sorted(range(len(weights)), key=lambda i: (-weights[i], i))
+
+
 def best_selection(spacing, points):
     """The weight of the best selection and its mask, or an error code alone."""
     if not are_within_limits(spacing, points):
@@ -160,7 +170,7 @@ def evaluate_selection(spacing, mask, points):
         return out_of_limits()
     members = members_of(mask, len(positions))
     valid = is_valid(spacing, [positions[i] for i in members])
-    return [1 if valid else 0, sum([weights[i] for i in members])]
+    return [1 if valid else 0, weight_of(members, weights)]
 
 
 def prices(spacing, points):
@@ -181,3 +191,23 @@ def check_prices(spacing, points, prices):
         return out_of_limits()
     sufficient = are_sufficient(spacing, positions, weights_of(points), prices)
     return [1 if sufficient else 0, sum(prices)]
+
+
+def greedy_selection(spacing, points):
+    """The weight of the greedy selection and its mask, or an error code alone."""
+    if not are_within_limits(spacing, points):
+        return out_of_limits()
+    positions = positions_of(points)
+    weights = weights_of(points)
+    mask = mask_of_taken(spacing, positions, by_decreasing_weight(weights))
+    return [weight_of(members_of(mask, len(positions)), weights), mask]
+
+
+def max_count(spacing, points):
+    """The greatest number of points of a valid set, or an error code alone."""
+    if not are_within_limits(spacing, points):
+        return out_of_limits()
+    positions = positions_of(points)
+    # Where each point weighs 1, the weight of a set is the number of its points.
+    best = best_weight_and_mask(spacing, positions, [1] * len(positions))
+    return [best[0]]

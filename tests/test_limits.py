@@ -3,7 +3,14 @@
 import unittest
 
 from helper import REFUSED, AnswerCase
-from spreadpicks.selections import best_selection, check_prices, evaluate_selection, prices
+from spreadpicks.selections import (
+    best_selection,
+    check_prices,
+    evaluate_selection,
+    greedy_selection,
+    max_count,
+    prices,
+)
 
 
 def evaluate_empty(spacing, points):
@@ -34,6 +41,8 @@ OPERATIONS = (
     check_most,
     check_one_too_many,
     check_too_great,
+    greedy_selection,
+    max_count,
 )
 
 
@@ -53,14 +62,17 @@ class Limits(AnswerCase):
 
     def taken(self, spacing, points, best):
         """Within the limits, and without a conflict."""
+        count = len(points) // 2
         with self.subTest(spacing=spacing, points=points):
             self.assert_answer(best_selection(spacing, points), best)
             self.assert_answer(evaluate_empty(spacing, points), [1, 0])
             self.assert_answer(evaluate_unknown(spacing, points), REFUSED)
             self.assert_answer(prices(spacing, points), best + points[1::2])
-            self.assert_answer(check_most(spacing, points), [1, 999 * (len(points) // 2)])
+            self.assert_answer(check_most(spacing, points), [1, 999 * count])
             self.assert_answer(check_one_too_many(spacing, points), REFUSED)
             self.assert_answer(check_too_great(spacing, points), REFUSED)
+            self.assert_answer(greedy_selection(spacing, points), [best[0], 2**count - 1])
+            self.assert_answer(max_count(spacing, points), [count])
 
     def test_spacing(self):
         for spacing in (0, 1000, 1001, 4294967295):
