@@ -13,6 +13,11 @@ def out_of_limits():
     return [-22]
 
 
+def no_such_point():
+    """The answer when the point doesn't exist."""
+    return [-2]
+
+
 def positions_of(points):
     """The position of each point."""
     return points[0::2]
@@ -153,6 +158,11 @@ def by_decreasing_weight(weights):
     return sorted(range(len(weights)), key=lambda i: (-weights[i], i))
 
 
+def without_one(numbers, index):
+    """The same numbers but for the one at this index, in a list of their own."""
+    return numbers[:index] + numbers[index + 1 :]
+
+
 def best_selection(spacing, points):
     """The weight of the best selection and its mask, or an error code alone."""
     if not are_within_limits(spacing, points):
@@ -211,3 +221,16 @@ def max_count(spacing, points):
     # Where each point weighs 1, the weight of a set is the number of its points.
     best = best_weight_and_mask(spacing, positions, [1] * len(positions))
     return [best[0]]
+
+
+def marginal_weight(spacing, index, points):
+    """How much the best selection loses without this point, or an error code alone."""
+    if not are_within_limits(spacing, points):
+        return out_of_limits()
+    positions = positions_of(points)
+    weights = weights_of(points)
+    if index >= len(positions):
+        return no_such_point()
+    best = best_weight_and_mask(spacing, positions, weights)
+    rest = best_weight_and_mask(spacing, without_one(positions, index), without_one(weights, index))
+    return [best[0] - rest[0]]

@@ -4,6 +4,7 @@ import itertools
 import unittest
 
 REFUSED = [-22]
+NO_SUCH_POINT = [-2]
 
 # The points of the document's examples, and as many points as there may be.
 THREE = [0, 4, 2, 5, 4, 4]

@@ -2,12 +2,13 @@
 
 import unittest
 
-from helper import REFUSED, AnswerCase
+from helper import NO_SUCH_POINT, REFUSED, AnswerCase
 from spreadpicks.selections import (
     best_selection,
     check_prices,
     evaluate_selection,
     greedy_selection,
+    marginal_weight,
     max_count,
     prices,
 )
@@ -33,6 +34,22 @@ def check_too_great(spacing, points):
     return check_prices(spacing, points, [4294967295] * max(1, len(points) // 2))
 
 
+def marginal_first(spacing, points):
+    return marginal_weight(spacing, 0, points)
+
+
+def marginal_last(spacing, points):
+    return marginal_weight(spacing, max(0, len(points) // 2 - 1), points)
+
+
+def marginal_unknown(spacing, points):
+    return marginal_weight(spacing, len(points) // 2, points)
+
+
+def marginal_far_unknown(spacing, points):
+    return marginal_weight(spacing, 4294967295, points)
+
+
 OPERATIONS = (
     best_selection,
     evaluate_empty,
@@ -43,6 +60,10 @@ OPERATIONS = (
     check_too_great,
     greedy_selection,
     max_count,
+    marginal_first,
+    marginal_last,
+    marginal_unknown,
+    marginal_far_unknown,
 )
 
 
@@ -73,6 +94,12 @@ class Limits(AnswerCase):
             self.assert_answer(check_too_great(spacing, points), REFUSED)
             self.assert_answer(greedy_selection(spacing, points), [best[0], 2**count - 1])
             self.assert_answer(max_count(spacing, points), [count])
+            first = points[1:2] or NO_SUCH_POINT
+            last = points[-1:] or NO_SUCH_POINT
+            self.assert_answer(marginal_first(spacing, points), first)
+            self.assert_answer(marginal_last(spacing, points), last)
+            self.assert_answer(marginal_unknown(spacing, points), NO_SUCH_POINT)
+            self.assert_answer(marginal_far_unknown(spacing, points), NO_SUCH_POINT)
 
     def test_spacing(self):
         for spacing in (0, 1000, 1001, 4294967295):
